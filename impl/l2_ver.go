@@ -113,6 +113,15 @@ func (o Obj) from(n int) Obj {
 	return Obj{Key: o.Key, Vers: slices.Clone(o.Vers[n:])}
 }
 
+// visible is the version that a read at id finds.
+func (o Obj) visible(id int) (Ver, bool) {
+	v, ok := o.vers().latest(id)
+	if !ok || v.Gone {
+		return Ver{}, false
+	}
+	return v, true
+}
+
 // unread is how many versions no read at id or later returns.
 func (o Obj) unread(id int) int {
 	n := o.vers().upTo(id)
@@ -176,11 +185,8 @@ func VmapAt(m Vmap, key string, id int) (Ver, bool) {
 	if !VmapOk(m) || !KeyOk(key) {
 		return Ver{}, false
 	}
-	v, ok := m.latest(key, id)
-	if !ok || v.Gone {
-		return Ver{}, false
-	}
-	return v, true
+	obj, _ := m.objs().get(key)
+	return obj.visible(id)
 }
 
 // VmapCut is the keys of a span.

@@ -2,6 +2,7 @@ package tests
 
 import (
 	"reflect"
+	"slices"
 	"testing"
 
 	"loop.example/cadastre/impl"
@@ -122,6 +123,69 @@ func TestVersionsThatShareMemoryAreSeparated(t *testing.T) {
 	if got, ok := impl.VmapPut(m, "b", text(9, "new")); !ok || versOf(got, "a")[2] != text(3, "z") || vers[2] != text(3, "z") {
 		t.Error("VmapPut writes into the spare capacity of an argument:", got, vers)
 	}
+}
+
+// listPages are pages, as listings give them and as they never do, whose slices have spare capacity.
+func listPages() []impl.Page {
+	var out []impl.Page
+	for _, p := range []impl.Page{page(""), page("b"), page("", "a"), page("b", "a", "b"), page("", "c/"), page("d", "c/", "d"),
+		page("", "b", "a", "a"), page("no", "", "NO"), page("", "a", "b", "c", "d", "e", "f", "g"), page("g", "a", "b", "c", "d", "e", "f", "g")} {
+		names := append(slices.Clone(p.Names), "spare", "spare")
+		out = append(out, page(p.Next, names[:len(p.Names)]...))
+	}
+	return out
+}
+
+// checkKept fails if a page is not as before, in its spare capacity too.
+func checkKept(t *testing.T, got, before impl.Page) {
+	t.Helper()
+	if got.Next != before.Next || len(got.Names) != len(before.Names) || !slices.Equal(got.Names[:cap(got.Names)], before.Names[:cap(before.Names)]) {
+		t.Errorf("ListMerge changes its argument: %q was %q", got.Names[:cap(got.Names)], before.Names[:cap(before.Names)])
+	}
+}
+
+func TestListPageAndListAllKeepArgumentsAndShareNothing(t *testing.T) {
+	maps := append(mapSamples(), listMaps()...)
+	for _, m := range notMaps() {
+		maps = append(maps, m)
+	}
+	asks := append(asksOf([]string{"", "a"}, []string{"", "a"}), notAsks()...)
+	for _, plain := range maps {
+		m := roomy(plain)
+		before := fullOf(m)
+		for _, a := range asks {
+			got := impl.ListPage(m, a)
+			checkFresh(t, "ListPage", got, m)
+			checkFresh(t, "ListPage again", got, impl.ListPage(m, a))
+			checkFresh(t, "ListAll", impl.ListAll(m, a), m)
+		}
+		if !sameMap(fullOf(m), before) {
+			t.Error("a function changes its argument:", fullOf(m), "was", before)
+		}
+	}
+}
+
+func TestListMergeKeepsArgumentsAndSharesNothing(t *testing.T) {
+	pages, before := listPages(), listPages()
+	for _, a := range append(asksOf([]string{""}, []string{""}), notAsks()...) {
+		for i, x := range pages {
+			for j, y := range pages {
+				checkFresh(t, "ListMerge", impl.ListMerge(a, x, y), x, y)
+				checkKept(t, x, before[i])
+				checkKept(t, y, before[j])
+			}
+		}
+	}
+}
+
+func TestPagesThatShareMemoryAreSeparated(t *testing.T) {
+	names := []string{"a", "b", "c", "d"}
+	x, y := page("", names[1:2]...), page("", names[0:3]...)
+	got := impl.ListMerge(impl.Ask{Most: 5}, x, y)
+	if !samePage(got, page("", "b", "a", "b", "c")) || !slices.Equal(names, []string{"a", "b", "c", "d"}) {
+		t.Errorf("ListMerge is %q and leaves %q", got, names)
+	}
+	checkFresh(t, "ListMerge", got, x, y)
 }
 
 func TestCheckFreshSeesSharing(t *testing.T) {
