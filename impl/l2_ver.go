@@ -89,10 +89,12 @@ func (o ordered[K, E]) with(e E) ordered[K, E] {
 	return slices.Concat(o[:first], ordered[K, E]{e}, o[rest:])
 }
 
+func idOk(id int) bool { return 1 <= id && id <= IdMax }
+
 func (v Ver) rank() int { return v.Id }
 
 func (v Ver) valid() bool {
-	return 1 <= v.Id && v.Id <= IdMax && TextOk(v.Text) && (!v.Gone || v.Text == "")
+	return idOk(v.Id) && TextOk(v.Text) && (!v.Gone || v.Text == "")
 }
 
 func (o Obj) rank() string { return o.Key }
@@ -144,6 +146,15 @@ func (m Vmap) within(r Span) Vmap {
 }
 
 func (m Vmap) copied() Vmap { return m.within(Span{}) }
+
+func (m Vmap) inside(r Span) bool {
+	for key := range m.objs().all() {
+		if !r.has(key) {
+			return false
+		}
+	}
+	return true
+}
 
 // latest is a key's latest version up to id, tombstone or not.
 func (m Vmap) latest(key string, id int) (Ver, bool) {

@@ -1,6 +1,7 @@
 package tests
 
 import (
+	"maps"
 	"reflect"
 	"slices"
 	"testing"
@@ -57,24 +58,66 @@ func checkFresh(t *testing.T, what string, result any, args ...any) {
 	}
 }
 
-// roomy is a copy of m in which every slice has spare capacity, filled with what no valid map has.
-func roomy(m impl.Vmap) impl.Vmap {
-	spare := []impl.Ver{text(-7, "spare"), text(-8, "spare")}
-	objs := make([]impl.Obj, 0, len(m.Objs)+2)
-	for _, o := range m.Objs {
-		vers := append(append([]impl.Ver{}, o.Vers...), spare...)
-		objs = append(objs, obj(o.Key, vers[:len(o.Vers)]...))
-	}
-	return impl.Vmap{Objs: append(objs, obj("spare"), obj("spare"))[:len(m.Objs)]}
+// roomy is a copy of v in which every slice has spare capacity, filled with what no valid argument has.
+func roomy[T any](v T) T {
+	return copyOf(reflect.ValueOf(v), roomySlice).Interface().(T)
 }
 
-// fullOf is m with the spare capacity of every slice as elements.
-func fullOf(m impl.Vmap) impl.Vmap {
-	var out impl.Vmap
-	for _, o := range m.Objs[:cap(m.Objs)] {
-		out.Objs = append(out.Objs, obj(o.Key, append([]impl.Ver{}, o.Vers[:cap(o.Vers)]...)...))
+// fullOf is a copy of v with the spare capacity of every slice as elements.
+func fullOf[T any](v T) T {
+	return copyOf(reflect.ValueOf(v), fullSlice).Interface().(T)
+}
+
+// copyOf copies structs field by field, and slices with the given function.
+func copyOf(v reflect.Value, slice func(v reflect.Value) reflect.Value) reflect.Value {
+	switch v.Kind() {
+	case reflect.Struct:
+		out := reflect.New(v.Type()).Elem()
+		for i := range v.NumField() {
+			out.Field(i).Set(copyOf(v.Field(i), slice))
+		}
+		return out
+	case reflect.Slice:
+		return slice(v)
+	}
+	return v
+}
+
+func roomySlice(v reflect.Value) reflect.Value {
+	out := reflect.MakeSlice(v.Type(), v.Len()+2, v.Len()+2)
+	for i := range out.Len() {
+		if i < v.Len() {
+			out.Index(i).Set(copyOf(v.Index(i), roomySlice))
+		} else {
+			fillSpare(out.Index(i))
+		}
+	}
+	return out.Slice(0, v.Len())
+}
+
+func fullSlice(v reflect.Value) reflect.Value {
+	all := v.Slice(0, v.Cap())
+	out := reflect.MakeSlice(v.Type(), all.Len(), all.Len())
+	for i := range all.Len() {
+		out.Index(i).Set(copyOf(all.Index(i), fullSlice))
 	}
 	return out
+}
+
+func fillSpare(v reflect.Value) {
+	switch v.Kind() {
+	case reflect.Struct:
+		for i := range v.NumField() {
+			fillSpare(v.Field(i))
+		}
+	case reflect.Slice:
+		v.Set(reflect.MakeSlice(v.Type(), 1, 1))
+		fillSpare(v.Index(0))
+	case reflect.String:
+		v.SetString("spare")
+	case reflect.Int:
+		v.SetInt(-7)
+	}
 }
 
 // eachVmapCall calls every function of chapter 2 that gives a map, with valid and invalid arguments.
@@ -186,6 +229,110 @@ func TestPagesThatShareMemoryAreSeparated(t *testing.T) {
 		t.Errorf("ListMerge is %q and leaves %q", got, names)
 	}
 	checkFresh(t, "ListMerge", got, x, y)
+}
+
+// checkUnchanged fails if an argument is not as before, in its spare capacity too.
+func checkUnchanged(t *testing.T, arg, before any) {
+	t.Helper()
+	if !reflect.DeepEqual(arg, before) {
+		t.Error("a function changes its argument:", arg, "was", before)
+	}
+}
+
+// anyTxns are transactions, valid and invalid ones.
+func anyTxns() []impl.Txn {
+	return append(slices.Collect(maps.Values(notTxns())), txnSamples()[:20]...)
+}
+
+func TestTxnFunctionsKeepArgumentsAndShareNothing(t *testing.T) {
+	for _, plain := range anyTxns() {
+		x := roomy(plain)
+		before := fullOf(x)
+		impl.TxnOk(x)
+		checkFresh(t, "TxnKeys", impl.TxnKeys(x), x)
+		for _, r := range append(notSpans()[:3], impl.Span{}, impl.Span{Low: "b"}, impl.Span{High: "c"}) {
+			checkFresh(t, "TxnCut", impl.TxnCut(x, r), x)
+		}
+		checkUnchanged(t, fullOf(x), before)
+	}
+}
+
+// eachPartCall calls every function of chapter 4 that takes a partition, with valid and invalid arguments.
+func eachPartCall(t *testing.T, p impl.Part, txns []impl.Txn) {
+	t.Helper()
+	impl.PartOk(p)
+	for _, x := range txns {
+		before := fullOf(x)
+		got, _ := impl.PartPromise(p, x)
+		checkFresh(t, "PartPromise", got, p, x)
+		checkUnchanged(t, fullOf(x), before)
+	}
+	ids := append([]int{1, impl.TxnMax}, extremes...)
+	for _, x := range p.Held {
+		ids = append(ids, x.Id)
+	}
+	for _, id := range ids {
+		for _, at := range []int{0, 1, 9, impl.IdMax, impl.IdMax + 1} {
+			got, _ := impl.PartDo(p, id, at)
+			checkFresh(t, "PartDo", got, p)
+		}
+		got, _ := impl.PartLeave(p, id)
+		checkFresh(t, "PartLeave", got, p)
+	}
+	for _, key := range append([]string{"", "NO"}, partKeys...) {
+		impl.PartGet(p, key)
+	}
+}
+
+func TestPartFunctionsKeepArgumentsAndShareNothing(t *testing.T) {
+	txns := []impl.Txn{{}, roomy(txn(9, put("q", "x"))), roomy(txn(9, want("q", 0), want("a", 4), drop("c"))), roomy(txn(1, put("c", "x"))), roomy(txn(2, put("b", "x y")))}
+	for _, plain := range append(slices.Collect(maps.Values(notParts())), partSamples()...) {
+		p := roomy(plain)
+		before := fullOf(p)
+		eachPartCall(t, p, slices.Concat(p.Held, txns))
+		checkUnchanged(t, fullOf(p), before)
+	}
+}
+
+func TestTransactionsThatShareMemoryAreSeparated(t *testing.T) {
+	wants := []impl.Want{want("c", 0), want("d", 0), want("e", 0)}
+	writes := []impl.Write{put("c", "x"), put("d", "x"), put("e", "x")}
+	p := whole(impl.Txn{Id: 1, Wants: wants[:1], Writes: writes[:1]}, impl.Txn{Id: 2, Wants: wants[1:2], Writes: writes[1:2]})
+	next := impl.Txn{Id: 3, Wants: wants[2:], Writes: writes[2:]}
+	eachPartCall(t, p, []impl.Txn{next, p.Held[0]})
+	if got, ok := impl.PartPromise(p, next); !ok || len(got.Held) != 3 {
+		t.Error("PartPromise is", got, ok)
+	}
+	// Held has spare capacity that another partition uses.
+	held := []impl.Txn{txn(1, put("c", "x")), txn(2, put("d", "x"))}
+	if got, ok := impl.PartPromise(whole(held[:1]...), txn(3, put("e", "x"))); !ok || len(got.Held) != 2 || held[1].Id != 2 {
+		t.Error("PartPromise writes into the spare capacity of an argument:", got, held)
+	}
+}
+
+func TestPmapFunctionsKeepArgumentsAndShareNothing(t *testing.T) {
+	txns := anyTxns()
+	for _, plain := range append(slices.Collect(maps.Values(notPmaps())), pmapSamples()...) {
+		m := roomy(plain)
+		before := fullOf(m)
+		impl.PmapOk(m)
+		for _, key := range append([]string{"", "NO"}, keySamples...) {
+			impl.PmapFind(m, key)
+			for _, node := range append([]int{0, 2}, extremes...) {
+				got, _ := impl.PmapSplit(m, key, node)
+				checkFresh(t, "PmapSplit", got, m)
+			}
+		}
+		for _, k := range append([]int{0, 1, 2, 3, 4, 5}, extremes...) {
+			impl.PmapSpan(m, k)
+			got, _ := impl.PmapMerge(m, k)
+			checkFresh(t, "PmapMerge", got, m)
+		}
+		for _, x := range txns {
+			checkFresh(t, "PmapRows", impl.PmapRows(m, x), m, x)
+		}
+		checkUnchanged(t, fullOf(m), before)
+	}
 }
 
 func TestCheckFreshSeesSharing(t *testing.T) {
