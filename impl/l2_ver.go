@@ -91,6 +91,9 @@ func (o ordered[K, E]) with(e E) ordered[K, E] {
 
 func idOk(id int) bool { return 1 <= id && id <= IdMax }
 
+// zeroOrId holds for the Id of a version, or for 0 where there is none.
+func zeroOrId(id int) bool { return id == 0 || idOk(id) }
+
 func (v Ver) rank() int { return v.Id }
 
 func (v Ver) valid() bool {
@@ -162,6 +165,17 @@ func (m Vmap) latest(key string, id int) (Ver, bool) {
 	return obj.vers().latest(id)
 }
 
+// add puts a version into a valid map that belongs to the caller. It changes nothing if the map would not be valid then.
+func (m *Vmap) add(key string, v Ver) bool {
+	obj, _ := m.objs().get(key)
+	last, _ := obj.vers().latest(IdMax)
+	if !KeyOk(key) || !v.valid() || v.Id <= last.Id {
+		return false
+	}
+	m.Objs = m.objs().with(Obj{Key: key, Vers: append(obj.Vers, v)})
+	return true
+}
+
 // VmapOk says whether a map is ok.
 func VmapOk(m Vmap) bool {
 	for _, obj := range m.objs().all() {
@@ -178,12 +192,8 @@ func VmapPut(m Vmap, key string, v Ver) (Vmap, bool) {
 		return Vmap{}, false
 	}
 	out := m.copied()
-	last, _ := out.latest(key, IdMax)
-	if !KeyOk(key) || !v.valid() || v.Id <= last.Id {
-		return out, false
-	}
-	obj, _ := out.objs().get(key)
-	return Vmap{Objs: out.objs().with(Obj{Key: key, Vers: append(obj.Vers, v)})}, true
+	ok := out.add(key, v)
+	return out, ok
 }
 
 // VmapGet is a key's newest version.

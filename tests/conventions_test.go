@@ -68,6 +68,16 @@ func fullOf[T any](v T) T {
 	return copyOf(reflect.ValueOf(v), fullSlice).Interface().(T)
 }
 
+// plain is a copy of v in which no slice has spare capacity, and an empty one is nil: what is the same value is equal then.
+func plain[T any](v T) T {
+	return copyOf(reflect.ValueOf(v), plainSlice).Interface().(T)
+}
+
+// same compares values; a nil slice and an empty one are the same.
+func same[T any](a, b T) bool {
+	return reflect.DeepEqual(plain(a), plain(b))
+}
+
 // copyOf copies structs field by field, and slices with the given function.
 func copyOf(v reflect.Value, slice func(v reflect.Value) reflect.Value) reflect.Value {
 	switch v.Kind() {
@@ -93,6 +103,17 @@ func roomySlice(v reflect.Value) reflect.Value {
 		}
 	}
 	return out.Slice(0, v.Len())
+}
+
+func plainSlice(v reflect.Value) reflect.Value {
+	if v.Len() == 0 {
+		return reflect.Zero(v.Type())
+	}
+	out := reflect.MakeSlice(v.Type(), v.Len(), v.Len())
+	for i := range v.Len() {
+		out.Index(i).Set(copyOf(v.Index(i), plainSlice))
+	}
+	return out
 }
 
 func fullSlice(v reflect.Value) reflect.Value {
